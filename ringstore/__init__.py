@@ -1,0 +1,1 @@
+"""A ring of records on a store that loses its power."""
