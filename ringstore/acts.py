@@ -13,6 +13,10 @@ class Program:
         """How many bytes a mask of this act has."""
         return len(self.content)
 
+    def described(self):
+        """The act as numbers: 0, the sector, the place, how many bytes, these."""
+        return [0, self.sector, self.place, len(self.content)] + self.content
+
     def carry_out(self, sectors):
         """Do the act whole."""
         self.tear(sectors, [0] * self.size())
@@ -35,6 +39,10 @@ class Erase:
     def size(self):
         """How many bytes a mask of this act has."""
         return self.length
+
+    def described(self):
+        """The act as numbers: 1, the sector."""
+        return [1, self.sector]
 
     def carry_out(self, sectors):
         """Do the act whole."""

@@ -3,10 +3,11 @@
 from ringstore.acts import Program
 from ringstore.layout import ERASED, Head, head_bytes, read_head
 from ringstore.planning import plan_append, size_in_new_sector
-from ringstore.ring import opened
+from ringstore.ring import find_record, opened
 
 WRONG = -1
 NOT_FOUND = -2
+DEAD_ALREADY = -2
 NOT_NOW = -4
 NO_ROOM = -5
 
@@ -86,6 +87,53 @@ class Keeper:
         self.ring = None
         self.plan = None
         return [0]
+
+    def read_record(self, number):
+        """A record's kind and body, as it was before what's under way."""
+        if self.ring is None:
+            return [NOT_NOW]
+        record = find_record(self.ring, self.sectors, number)
+        if record is None:
+            return [NOT_FOUND]
+        return [record.kind] + record.body
+
+    def mark_dead(self, sector):
+        """A sector dead from now on; its records stay there."""
+        if sector >= len(self.sectors):
+            return [WRONG]
+        if self.plan is not None or self.ring is None:
+            return [NOT_NOW]
+        if sector in self.ring.dead:
+            return [DEAD_ALREADY]
+        self.ring.dead[sector] = True
+        # Another sector may be the spare one now.
+        self.ring.look_at_spare(self.sectors)
+        return [0, len(self.ring.dead)]
+
+    def told(self):
+        """What the ring knows, as it was before what's under way."""
+        ring = self.ring
+        if ring is None:
+            return [NOT_NOW]
+        there = [self.first_number(), ring.next_number, len(ring.ages)]
+        newest = [ring.newest, ring.ages[ring.newest], ring.place]
+        spare = [ring.spare(), 1 if ring.clean else 0]
+        return [0] + there + newest + spare + [len(self.acts_under_way())]
+
+    def sector_bytes(self, k):
+        """A sector's size and its bytes."""
+        if k >= len(self.sectors):
+            return [WRONG]
+        row = self.sectors[k]
+        return [len(row)] + row
+
+    def acts_told(self):
+        """How many acts are under way, then the numbers of each."""
+        acts = self.acts_under_way()
+        numbers = [len(acts)]
+        for act in acts:
+            numbers.extend(act.described())
+        return numbers
 
 
 def are_bytes(row):

@@ -86,6 +86,11 @@ def read_records(sector):
     return records
 
 
+def without_notes(records):
+    """The records that have a number, in their order."""
+    return [record for record in records if record.kind != NOTE]
+
+
 def is_erased(row):
     """Whether all the bytes are 255."""
     return row.count(ERASED) == len(row)

@@ -1,6 +1,7 @@
 """What an open ring knows, and how it is opened from the bytes of its sectors."""
 
 from ringstore.layout import HEAD_SIZE, NOTE, bytes_number, is_erased, read_head, read_records, record_end
+from ringstore.layout import without_notes
 
 
 class Ring:
@@ -37,6 +38,10 @@ class Ring:
     def spare(self):
         """The sector behind the newest."""
         return self.behind(self.newest)
+
+    def look_at_spare(self, sectors):
+        """Whether the spare sector is clean, looked at anew."""
+        self.clean = is_erased(sectors[self.spare()])
 
     def is_there(self, sector):
         """Whether the sector's records are there."""
@@ -106,6 +111,17 @@ def opened(sectors, dead):
     ring.drop_below(least_age(heads[newest], records))
     ring.newest = newest
     ring.place = next_place(row, records)
-    ring.next_number = heads[newest].first + len([record for record in records if record.kind != NOTE])
-    ring.clean = is_erased(sectors[ring.spare()])
+    ring.next_number = heads[newest].first + len(without_notes(records))
+    ring.look_at_spare(sectors)
     return ring
+
+
+def find_record(ring, sectors, number):
+    """The record of this number in a sector that's there; None if there's none."""
+    for sector in ring.ages:
+        row = sectors[sector]
+        first = read_head(row).first
+        records = without_notes(read_records(row))
+        if first <= number < first + len(records):
+            return records[number - first]
+    return None

@@ -7,6 +7,11 @@ OPEN = 1
 APPEND = 2
 SETTLE = 3
 CUT = 4
+READ = 5
+DEAD = 6
+TOLD = 7
+SECTOR = 8
+ACTS = 9
 
 
 class UnknownCall(ValueError):
@@ -57,6 +62,21 @@ def answer_call(keeper, reader):
         i = reader.take_number()
         mask = reader.take_row()
         return keeper.cut(i, mask)
+    if call == DEAD:
+        return keeper.mark_dead(reader.take_number())
+    return answer_look(keeper, reader, call)
+
+
+def answer_look(keeper, reader, call):
+    """What a call answers that changes nothing."""
+    if call == READ:
+        return keeper.read_record(reader.take_number())
+    if call == TOLD:
+        return keeper.told()
+    if call == SECTOR:
+        return keeper.sector_bytes(reader.take_number())
+    if call == ACTS:
+        return keeper.acts_told()
     raise UnknownCall(f"there is no call {call}")
 
 

@@ -25,6 +25,26 @@ def cut(i, mask):
     return [4, i, len(mask)] + list(mask)
 
 
+def read(number):
+    return [5, number]
+
+
+def dead(sector):
+    return [6, sector]
+
+
+def told():
+    return [7]
+
+
+def sector_of(k):
+    return [8, k]
+
+
+def acts():
+    return [9]
+
+
 def appended(kind, body):
     """An append and its settle, as two calls."""
     return [append(kind, body), settle()]

@@ -144,6 +144,47 @@ class Model:
         self.acts, self.is_open = [], False
         return [0]
 
+    def read(self, number):
+        if not self.is_open:
+            return [-4]
+        found = {}
+        for s in self.look()[1]:
+            own = [pair for pair in self.walk(s)[0] if pair[0] != 0]
+            found.update(enumerate(own, start=self.head(s)[2]))
+        if number not in found:
+            return [-2]
+        kind, body = found[number]
+        return [kind, *body]
+
+    def die(self, s):
+        if s >= len(self.memory):
+            return [-1]
+        if self.acts or not self.is_open:
+            return [-4]
+        if s in self.dead:
+            return [-2]
+        self.dead.append(s)
+        return [0, len(self.dead)]
+
+    def told(self):
+        if not self.is_open:
+            return [-4]
+        newest, there, place, number, clean = self.look()
+        first = min(self.head(s)[2] for s in there)
+        return [0, first, number, len(there), newest, there[newest], place, self.behind(newest), int(clean),
+                len(self.acts)]
+
+    def sector(self, k):
+        if k >= len(self.memory):
+            return [-1]
+        return [len(self.memory[k]), *self.memory[k]]
+
+    def underway(self):
+        given = [len(self.acts)]
+        for act in self.acts:
+            given += [1, act[0]] if len(act) == 1 else [0, act[0], act[1], len(act[2]), *act[2]]
+        return given
+
     def call(self, row):
         """The answer of one call, given as the interface writes it."""
         if row[0] == 0:
@@ -154,4 +195,6 @@ class Model:
             return self.append(row[1], row[3:])
         if row[0] == 3:
             return self.settle()
-        return self.cut(row[1], row[3:])
+        if row[0] == 4:
+            return self.cut(row[1], row[3:])
+        return (self.read, self.die, self.told, self.sector, self.underway)[row[0] - 5](*row[1:])

@@ -33,10 +33,19 @@ class PowerLossTest(unittest.TestCase):
         self.assertEqual(answer[0], 0)
         found = kept_records(keeper)
         self.assertEqual(sorted(found), list(range(answer[1], answer[2])))
+        self.check_reads(keeper, found, answer)
         for known in found:
             self.assertEqual(found[known], before[known] if known < number else record)
         self.assertIn(answer[2], (number, number + 1))
         return answer
+
+    def check_reads(self, keeper, found, answer):
+        """Each record that's there is read, and none beyond."""
+        for known in range(answer[1], answer[2]):
+            kind, body = found[known]
+            self.assertEqual(keeper.read_record(known), [kind] + body)
+        for beyond in (answer[1] - 1, answer[2]):
+            self.assertEqual(keeper.read_record(beyond), [-2])
 
     def tear_everywhere(self, keeper, kind, body, dice):
         """Each act of this record torn by each mask, from the same beginning; then two records more."""
